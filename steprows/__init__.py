@@ -1,0 +1,1 @@
+"""Steprows: rows and webs of walkers that change places."""
