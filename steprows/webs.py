@@ -114,20 +114,20 @@ class Web:
     def __iter__(self):
         return iter(self.ties)
 
-    def __contains__(self, pair):
-        u, v = pair
+    def __contains__(self, x):
+        u, v = x
         return (min(u, v), max(u, v)) in self._numbers
 
-    def __add__(self, pair):
-        u, v = pair
+    def __add__(self, other):
+        u, v = other
         check_places(self.size, (u, v))
         tie = (min(u, v), max(u, v))
         if tie in self._numbers:
             raise BadWeb(self._numbers[tie])
         return Web(self.size, sorted(list(self.ties) + [tie]))
 
-    def __sub__(self, pair):
-        u, v = pair
+    def __sub__(self, other):
+        u, v = other
         number = self.number_of(u, v)
         return Web(self.size, self.ties[:number] + self.ties[number + 1:])
 

@@ -1,12 +1,18 @@
 """What several tests share: webs, crowds, numbers by a fixed rule, and how an error is told."""
 
 from fractions import Fraction
-from itertools import combinations
+from itertools import combinations, permutations, product
+from math import lcm
 
-from steprows.crowds import Crowd, exchanged, words_of
+from steprows.crowds import Crowd, exchanged, words_in, words_of
 from steprows.errors import StepError
 from steprows.ratios import Ratio
+from steprows.runs import Run
+from steprows.shares import Shares
+from steprows.tables import RatioTable
 from steprows.webs import Web
+
+BIG_CROWD = Crowd((2, 2, 1, 1, 1, 1))
 
 
 def told(call, *things, **more):
@@ -76,6 +82,154 @@ def fraction(thing):
     if isinstance(thing, Ratio):
         return Fraction(thing.top, thing.bottom)
     return Fraction(thing)
+
+
+def ratio(number):
+    return Ratio(number.numerator, number.denominator)
+
+
+def words_from(size, kinds):
+    """All words of that size, with any counts."""
+    return list(product(range(kinds), repeat=size))
+
+
+def all_rings(web):
+    """All rings of places of the web, begun at each place and read in each direction."""
+    return [
+        ring for many in range(3, web.size + 1) for ring in permutations(range(web.size), many)
+        if all(pair in web for pair in zip(ring, ring[1:] + ring[:1]))
+    ]
+
+
+def all_three_walks(web, crowd):
+    """All six-walks and all round-walks of either direction, by their places and words."""
+    walks = set()
+    corners = [(u, v, s) for v in range(web.size) for u, s in permutations(web.near(v), 2)]
+    rings = all_rings(web)
+    for word in words_of(crowd):
+        for u, v, s in corners:
+            if len({word[u], word[v], word[s]}) == 3:
+                walks.add(walked(word, [(u, v), (v, s)] * 3))
+        for ring in rings:
+            if word[ring[0]] != word[ring[1]]:
+                ties = list(zip(ring, ring[1:] + ring[:1]))
+                walk = walked(word, ties[:-1] + [ties[-1]] + ties[-2:0:-1])
+                walks.update((walk, walk[::-1]))
+    return walks
+
+
+def walked(word, ties):
+    """The different words on the way when the kinds at these ties are exchanged in turn."""
+    walk = [tuple(word)]
+    for u, v in ties:
+        after = list(walk[-1])
+        after[u], after[v] = after[v], after[u]
+        if tuple(after) != walk[-1]:
+            walk.append(tuple(after))
+    return tuple(walk)
+
+
+def some_run(web, kinds, seed=1, zeros=False):
+    numbers = Numbers(seed)
+    tables = []
+    for _ in web.ties:
+        table = [[numbers.ratio() for _ in range(kinds)] for _ in range(kinds)]
+        for a in range(kinds):
+            table[a][a] = 0
+            if zeros and numbers.below(2):
+                table[a][a - 1] = 0
+        tables.append(table)
+    return Run(web, kinds, tables)
+
+
+def some_table(web, kinds, seed=1):
+    """A ratio table of which no rule need hold."""
+    numbers = Numbers(seed)
+    entries = []
+    for _ in web.ties:
+        table = [[Ratio(1)] * kinds for _ in range(kinds)]
+        for a, b in combinations(range(kinds), 2):
+            table[a][b] = numbers.ratio()
+            table[b][a] = table[a][b].inverse()
+        entries.append(table)
+    return RatioTable(web, kinds, entries)
+
+
+def some_values(web, crowd, seed=1, order=True):
+    """For each word a value with which it is local, by [21]; ordered ones where there is a line."""
+    numbers = Numbers(seed)
+    spots = [[fraction(numbers.ratio()) for _ in crowd.counts] for _ in range(crowd.size)]
+    orders = [[fraction(numbers.ratio()) for _ in crowd.counts] for _ in crowd.counts]
+    values = {}
+    for word in words_in(crowd):
+        value = Fraction(1)
+        for place, kind in enumerate(word):
+            value *= spots[place][kind]
+        if order and web.along is not None:
+            for p, q in combinations(web.along, 2):
+                value *= orders[word[p]][word[q]]
+        values[word] = value
+    return values
+
+
+def table_by(web, crowd, values):
+    """The table of the values, each entry by the first word that shows it; the values are local."""
+    entries = []
+    for u, v in web.ties:
+        table = [[None] * crowd.kinds for _ in crowd.counts]
+        for word, value in values.items():
+            if table[word[u]][word[v]] is None:
+                table[word[u]][word[v]] = ratio(values[exchanged(word, u, v)] / value)
+        for a in range(crowd.kinds):
+            table[a][a] = 1
+        entries.append(table)
+    return RatioTable(web, crowd.kinds, entries)
+
+
+def kept_table(web, crowd, seed=1):
+    return table_by(web, crowd, some_values(web, crowd, seed))
+
+
+def chances_of(values):
+    """The values divided by their sum, words in order."""
+    return [value / sum(values.values()) for _, value in sorted(values.items())]
+
+
+def share_chances(shares):
+    return [Fraction(weight, shares.bottom) for weight in shares.weights]
+
+
+def changed(table, number, a, b, factor=7):
+    """The table with one entry multiplied."""
+    entries = [[list(row) for row in tie] for tie in table.entries]
+    entries[number][a][b] = entries[number][a][b] * factor
+    entries[number][b][a] = entries[number][a][b].inverse()
+    return RatioTable(table.web, table.kinds, entries)
+
+
+def solved_shares(run, crowd):
+    """The lasting shares of a full run, by elimination over its steps."""
+    words = words_of(crowd)
+    many = len(words)
+    rows = [[Fraction(0)] * many for _ in words]
+    for at, word in enumerate(words):
+        for u, v in run.web.ties:
+            rate = fraction(run.rate(u, v, word[u], word[v]))
+            rows[words.index(exchanged(word, u, v))][at] += rate
+            rows[at][at] -= rate
+    # One chance is set to 1 in place of the last equation, which follows from the others.
+    rows = [row[:-1] + [-row[-1]] for row in rows[:-1]]
+    for at in range(many - 1):
+        pivot = next(number for number in range(at, many - 1) if rows[number][at])
+        rows[at], rows[pivot] = rows[pivot], rows[at]
+        rows[at] = [entry / rows[at][at] for entry in rows[at]]
+        for number in range(many - 1):
+            if number != at and rows[number][at]:
+                factor = rows[number][at]
+                rows[number] = [entry - factor * more for entry, more in zip(rows[number], rows[at])]
+    chances = [row[-1] for row in rows] + [Fraction(1)]
+    bottom = lcm(*[chance.denominator for chance in chances])
+    return Shares(crowd, [int(chance * bottom) for chance in chances])
 
 
 def spread_chances(table, crowd):

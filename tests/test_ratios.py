@@ -52,8 +52,10 @@ class TestRatio(unittest.TestCase):
         self.assertFalse(Ratio(1, 2) == 1)
         self.assertFalse(Ratio(1, 2) == Ratio(1, 3))
         self.assertTrue(Ratio(1, 2) != Ratio(1, 3))
-        for other in ("1/2", (1, 2), None, Web.row(3), [1]):
+        for other in ("1/2", (1, 2), None, Web.row(3), [1], 0.5):
             self.assertIs(Ratio(1, 2) == other, False)
+        for other in (1.0, "1", (1, 1), [1]):
+            self.assertIs(Ratio(1) == other, False)
 
     def test_truth(self):
         self.assertFalse(Ratio(0, 3))

@@ -6,20 +6,7 @@ from steprows.crowds import Crowd
 from steprows.ratios import Ratio
 from steprows.runs import Run, moves
 from steprows.webs import Web
-from tests.common import Numbers, all_ratios, some_webs, told
-
-
-def some_run(web, kinds, seed=1, zeros=False):
-    numbers = Numbers(seed)
-    tables = []
-    for _ in web.ties:
-        table = [[numbers.ratio() for _ in range(kinds)] for _ in range(kinds)]
-        for a in range(kinds):
-            table[a][a] = 0
-            if zeros and numbers.below(2):
-                table[a][a - 1] = 0
-        tables.append(table)
-    return Run(web, kinds, tables)
+from tests.common import BIG_CROWD, all_ratios, some_run, some_webs, told
 
 
 class TestMaking(unittest.TestCase):
@@ -42,7 +29,8 @@ class TestMaking(unittest.TestCase):
         for rates, place in [
             (None, -1), ([], -1), ([good], -1), ([good] * 3, -1), ([5, 5, 5], -1), ("ab", -1), ([good, None], 1),
             ([good, [[0, 1]]], 1), ([good, [[0, 1, 1], [1, 0, 1]]], 1), ([[[0, -1], [1, 0]], None], 0),
-            ([good, [[0, Ratio(-1, 2)], [1, 0]]], 1), ([[[1, 1], [1, 0]], good], 0), ([good, [[0, 1], [1, Ratio(1)]]], 1),
+            ([good, [[0, Ratio(-1, 2)], [1, 0]]], 1), ([[[1, 1], [1, 0]], good], 0),
+            ([good, [[0, 1], [1, Ratio(1)]]], 1),
             ([good, [[0, "1"], [1, 0]]], 1), ([good, [[0, 1], None]], 1), ([good, [[0, 1.5], [1, 0]]], 1),
         ]:
             self.assertEqual(told(Run, Web.row(3), 2, rates), ("BadTable", place), rates)
@@ -153,7 +141,7 @@ class TestMoves(unittest.TestCase):
 
     def test_many_words(self):
         run = Run.level(Web.full(8), 6)
-        self.assertEqual(len(moves(run, Crowd((2, 2, 1, 1, 1, 1)), (0, 0, 1, 1, 2, 3, 4, 5))), 26)
+        self.assertEqual(len(moves(run, BIG_CROWD, (0, 0, 1, 1, 2, 3, 4, 5))), 26)
 
     def test_wrong_ones(self):
         run = Run.level(Web.row(3), 2)
