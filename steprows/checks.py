@@ -33,18 +33,34 @@ def check_kinds(kinds, row):
             raise BadKind(kind)
 
 
+def check_place_row(size, places, length):
+    """Raises BadPlace unless places is a list or tuple of so many different places."""
+    if not is_row_of(places, length):
+        raise BadPlace(-1)
+    check_places(size, places)
+
+
+def check_unlike_kinds(kinds, row, length):
+    """Raises BadKind unless row is a list or tuple of so many different kinds."""
+    if not is_row_of(row, length):
+        raise BadKind(-1)
+    for number, kind in enumerate(row):
+        if not is_below(kind, kinds) or kind in row[:number]:
+            raise BadKind(kind)
+
+
 def check_many_kinds(kinds):
     """Raises BadNumber unless runs and tables may have so many kinds."""
     if not is_int(kinds) or kinds < 2 or kinds > 6:
         raise BadNumber("kinds")
 
 
-def check_free_word(size, word):
-    """The word, of which no crowd is told, as a tuple."""
+def check_free_word(size, word, kinds=6):
+    """The word of these kinds with any counts as a tuple."""
     if not is_row_of(word, size):
         raise BadWord(-1)
     for place, kind in enumerate(word):
-        if not is_below(kind, 6):
+        if not is_below(kind, kinds):
             raise BadWord(place)
     return tuple(word)
 
@@ -58,6 +74,12 @@ def check_web_crowd(web, crowd):
 def check_crowd(holder, crowd):
     """Raises Unfit unless the run or table and the crowd fit."""
     if holder.web.size != crowd.size or holder.kinds != crowd.kinds:
+        raise Unfit()
+
+
+def check_measure(first, second):
+    """Raises Unfit unless two crowds, pair sums or leans have the same size and kinds."""
+    if first.size != second.size or first.kinds != second.kinds:
         raise Unfit()
 
 
@@ -90,6 +112,11 @@ def is_positive(thing):
     return is_ratio(thing) and ratio_of(thing).top > 0
 
 
+def is_ratio_row(row, length):
+    """True for a list or tuple of that many ratios."""
+    return is_row_of(row, length) and all([is_ratio(thing) for thing in row])
+
+
 def is_positive_row(row, length):
     """True for a list or tuple of that many positive ratios."""
     return is_row_of(row, length) and all([is_positive(thing) for thing in row])
@@ -97,11 +124,7 @@ def is_positive_row(row, length):
 
 def is_square(table, kinds):
     """True for a table of as many rows and columns of ratios as there are kinds."""
-    if not is_row_of(table, kinds):
-        return False
-    if not all([is_row_of(row, kinds) for row in table]):
-        return False
-    return all([is_ratio(thing) for row in table for thing in row])
+    return is_row_of(table, kinds) and all([is_ratio_row(row, kinds) for row in table])
 
 
 def ratio_row(row):
@@ -114,9 +137,9 @@ def ratio_rows(rows):
     return tuple([ratio_row(row) for row in rows])
 
 
-def upper_pairs(kinds):
-    """The pairs a < b of kinds in order."""
-    return [(a, b) for a in range(kinds) for b in range(a + 1, kinds)]
+def upper_pairs(many):
+    """The pairs a < b of that many kinds, or places, in order."""
+    return [(a, b) for a in range(many) for b in range(a + 1, many)]
 
 
 def upper_of(square):

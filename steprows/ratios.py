@@ -112,6 +112,14 @@ def ratio_of(thing):
     return Ratio(thing)
 
 
+def sum_over(ratios):
+    """The sum of a list of ratios; 0 if there are none."""
+    total = Ratio(0)
+    for one in ratios:
+        total = total + one
+    return total
+
+
 def product_over(ratios):
     """The product of a list of ratios; 1 if there are none."""
     product = Ratio(1)

@@ -2,7 +2,7 @@
 
 from steprows.checks import (
     check_alike, check_crowd, check_kinds, check_length, check_many_kinds, check_places, check_right,
-    entry_at, is_square, ratio_rows,
+    entry_at, is_row, is_square, ratio_rows,
 )
 from steprows.crowds import check_word, exchanged
 from steprows.errors import BadNumber
@@ -21,6 +21,13 @@ def are_rates(table, kinds):
 def are_full(table):
     """True if the rates of all unlike kinds are positive."""
     return all([rate.top > 0 for a, row in enumerate(table) for b, rate in enumerate(row) if a != b])
+
+
+def read_kind_rates(rates):
+    """The rates of a table for 2 to 6 kinds, without places, as a tuple of tuples of Ratios."""
+    if not is_row(rates) or len(rates) < 2 or len(rates) > 6 or not are_rates(rates, len(rates)):
+        raise BadNumber("rates")
+    return ratio_rows(rates)
 
 
 def read_rates(web, kinds, rates):

@@ -3,7 +3,7 @@
 from steprows.checks import check_alike, check_crowd, is_positive, read_uppers, square_from, upper_of
 from steprows.crowds import check_listed, check_word, exchanged, words_of
 from steprows.errors import BadNumber, NotFull
-from steprows.ratios import Ratio, product_over
+from steprows.ratios import Ratio, product_over, sum_over
 from steprows.rounds import broken, is_kept
 from steprows.runs import Run
 from steprows.shares import local_shares
@@ -71,10 +71,7 @@ def excess(run, shares, word):
     """What comes into the word less what goes out of it."""
     check_crowd(run, shares.crowd)
     here = check_word(shares.crowd, word)
-    total = Ratio(0)
-    for tie in run.web.ties:
-        total = total + tie_excess(run, shares, here, tie)
-    return total
+    return sum_over([tie_excess(run, shares, here, tie) for tie in run.web.ties])
 
 
 def is_lasting(run, shares):

@@ -1,6 +1,8 @@
 """Walks from word to word."""
 
-from steprows.checks import check_free_word, check_places, check_web_crowd, is_below, is_row, is_row_of
+from steprows.checks import (
+    check_free_word, check_place_row, check_places, check_web_crowd, is_below, is_row, is_row_of,
+)
 from steprows.crowds import check_word, exchanged
 from steprows.errors import BadKind, BadPlace, BadWord
 from steprows.shapes import path_over
@@ -60,9 +62,7 @@ def walk_over(word, ties):
 def six_walk(web, word, places):
     """The closed walk that exchanges six times by turns over the ties u-v and v-s."""
     here = check_free_word(web.size, word)
-    if not is_row_of(places, 3):
-        raise BadPlace(-1)
-    check_places(web.size, places)
+    check_place_row(web.size, places, 3)
     u, v, s = places
     web.number_of(u, v)
     web.number_of(v, s)

@@ -6,9 +6,12 @@ from math import lcm
 
 from steprows.crowds import Crowd, exchanged, words_in, words_of
 from steprows.errors import StepError
+from steprows.pairs import PairSum
 from steprows.ratios import Ratio
 from steprows.runs import Run
+from steprows.shapes import rounds
 from steprows.shares import Shares
+from steprows.standing import standing_run
 from steprows.tables import RatioTable
 from steprows.webs import Web
 
@@ -190,6 +193,32 @@ def kept_table(web, crowd, seed=1):
     return table_by(web, crowd, some_values(web, crowd, seed))
 
 
+def some_rows(web, kinds, seed=1):
+    """A row of positive ratios for each tie, one for each two kinds."""
+    numbers = Numbers(seed)
+    return [numbers.ratios(kinds * (kinds - 1) // 2) for _ in web.ties]
+
+
+def some_standing_run(web, crowd, seed=1):
+    return standing_run(kept_table(web, crowd, seed), some_rows(web, crowd.kinds, seed))
+
+
+def even_run(web, kinds, seed=1):
+    """A full run with a lean that runs round, so that it is even for each crowd; on a tree it stands."""
+    numbers = Numbers(seed)
+    tables = {tie: [[Fraction(0)] * kinds for _ in range(kinds)] for tie in web.ties}
+    for ring in rounds(web):
+        strength = [fraction(numbers.ratio()) for _ in range(kinds)]
+        for u, v in zip(ring, ring[1:] + ring[:1]):
+            for a, b in product(range(kinds), repeat=2):
+                tables[(min(u, v), max(u, v))][a][b] += (strength[a] - strength[b]) * (1 if u < v else -1)
+    for table in tables.values():
+        for a, b in combinations(range(kinds), 2):
+            speed, lean = fraction(numbers.ratio()), table[a][b]
+            table[a][b], table[b][a] = speed + max(lean, 0), speed + max(-lean, 0)
+    return Run(web, kinds, [[[ratio(rate) for rate in row] for row in tables[tie]] for tie in web.ties])
+
+
 def chances_of(values):
     """The values divided by their sum, words in order."""
     return [value / sum(values.values()) for _, value in sorted(values.items())]
@@ -248,6 +277,20 @@ def spread_chances(table, crowd):
             elif found[after] != chance:
                 return None
     return [found[word] for word in words]
+
+
+def some_pairs(size, kinds, seed=1):
+    """A pair sum with entries of any sign."""
+    numbers = Numbers(seed)
+    return PairSum(size, kinds, [
+        [[numbers.ratio() - numbers.ratio() for _ in range(kinds)] for _ in range(kinds)]
+        for _ in combinations(range(size), 2)
+    ])
+
+
+def pair_value(pairs, word):
+    """What [46] tells of the pair sum at a word."""
+    return sum(fraction(pairs.at(u, v, word[u], word[v])) for u, v in combinations(range(pairs.size), 2))
 
 
 def all_ratios(thing):

@@ -15,7 +15,7 @@ BUILTINS = set(
 )
 METHODS = {
     "__init__", "__eq__", "__len__", "__iter__", "__contains__", "__getitem__", "__bool__", "__neg__", "__add__",
-    "__sub__", "__mul__", "__radd__", "__rsub__", "__rmul__",
+    "__sub__", "__mul__", "__radd__", "__rsub__", "__rmul__", "__call__",
 }
 NODES = (
     ast.AsyncFunctionDef, ast.Await, ast.Global, ast.GeneratorExp, ast.Div, ast.Lambda, ast.AnnAssign, ast.Import,

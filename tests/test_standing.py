@@ -20,18 +20,8 @@ from steprows.walks import is_walk
 from steprows.webs import Web
 from tests.common import (
     BIG_CROWD, Numbers, all_ratios, all_three_walks, changed, fraction, kept_table, share_chances, small_crowds,
-    solved_shares, some_run, some_table, some_webs, spread_chances, told,
+    solved_shares, some_rows, some_run, some_standing_run, some_table, some_webs, spread_chances, told,
 )
-
-
-def some_rows(web, kinds, seed=1):
-    """A row of positive ratios for each tie, one for each two kinds."""
-    numbers = Numbers(seed)
-    return [numbers.ratios(kinds * (kinds - 1) // 2) for _ in web.ties]
-
-
-def some_standing_run(web, crowd, seed=1):
-    return standing_run(kept_table(web, crowd, seed), some_rows(web, crowd.kinds, seed))
 
 
 def some_weights(crowd, seed=1):
