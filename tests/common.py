@@ -6,6 +6,7 @@ from math import lcm
 
 from steprows.crowds import Crowd, exchanged, words_in, words_of
 from steprows.errors import StepError
+from steprows.leans import Lean
 from steprows.pairs import PairSum
 from steprows.ratios import Ratio
 from steprows.runs import Run
@@ -279,6 +280,23 @@ def spread_chances(table, crowd):
     return [found[word] for word in words]
 
 
+def rank(rows):
+    """The rank of a table of numbers."""
+    rows = [list(row) for row in rows]
+    done = 0
+    for column in range(len(rows[0]) if rows else 0):
+        pivot = next((number for number in range(done, len(rows)) if rows[number][column]), None)
+        if pivot is None:
+            continue
+        rows[done], rows[pivot] = rows[pivot], rows[done]
+        for number in range(done + 1, len(rows)):
+            factor = Fraction(rows[number][column]) / rows[done][column]
+            if factor:
+                rows[number] = [entry - factor * more for entry, more in zip(rows[number], rows[done])]
+        done += 1
+    return done
+
+
 def some_pairs(size, kinds, seed=1):
     """A pair sum with entries of any sign."""
     numbers = Numbers(seed)
@@ -286,6 +304,19 @@ def some_pairs(size, kinds, seed=1):
         [[numbers.ratio() - numbers.ratio() for _ in range(kinds)] for _ in range(kinds)]
         for _ in combinations(range(size), 2)
     ])
+
+
+def some_lean(size, kinds, seed=1, web=None):
+    """A lean with entries of any sign, on all pairs of places or on a web."""
+    numbers = Numbers(seed)
+    tables = []
+    for pair in combinations(range(size), 2):
+        table = [[Ratio(0)] * kinds for _ in range(kinds)]
+        for a, b in combinations(range(kinds), 2):
+            table[a][b] = numbers.ratio() - numbers.ratio() if web is None or pair in web else Ratio(0)
+            table[b][a] = -table[a][b]
+        tables.append(table)
+    return Lean(size, kinds, tables)
 
 
 def pair_value(pairs, word):

@@ -122,7 +122,8 @@ class TestMaking(unittest.TestCase):
         for arrows, place in [
             (None, -1), ("ab", -1), ([good], -1), ([good, (1, 2, 1), (0, 2, 1)], -1), ([good, None], 1), ([good, 5], 1),
             ([good, (1, 2)], 1), ([good, (1, 2, 1, 1)], 1), ([good, (0, 2, 1)], 1), ([(1, 2, 1), good], 0),
-            ([good, (1, 2, 0)], 1), ([good, (1, 2, -1)], 1), ([good, (2, 1, Ratio(-1, 2))], 1), ([good, (1, 2, "1")], 1),
+            ([good, (1, 2, 0)], 1), ([good, (1, 2, -1)], 1), ([good, (2, 1, Ratio(-1, 2))], 1),
+            ([good, (1, 2, "1")], 1),
             ([good, (1, 2, 1.0)], 1), ([good, (Ratio(1), 2, 1)], 1), ([good, (1, Ratio(2), 1)], 1), ([(0, 1, 0), 3], 0),
             ([good, (1, 1, 1)], 1), ([good, ("1", 2, 1)], 1), ([good, (2, 3, 1)], 1), ([good, "121"], 1),
         ]:
@@ -222,7 +223,8 @@ class TestCases(unittest.TestCase):
         else:
             self.assertEqual(shares, local_shares(table_of_run(run), crowd))
             self.assertIs(is_standing(run, shares), True)
-        quick = Arrows(told_arrows.web, [(u, v, speed * (u + 2)) for u, v, speed in told_arrows.arrows], told_arrows.rates)
+        faster = [(u, v, speed * (u + 2)) for u, v, speed in told_arrows.arrows]
+        quick = Arrows(told_arrows.web, faster, told_arrows.rates)
         self.assertEqual((arrow_case(quick, crowd), arrow_shares(quick, crowd)), (case, shares))
         return case
 

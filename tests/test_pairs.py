@@ -100,8 +100,9 @@ class TestSums(unittest.TestCase):
     def test_entry_by_entry(self):
         one, other = some_pairs(4, 3, seed=1), some_pairs(4, 3, seed=2)
         for found, call in [
-            (one + other, lambda x, y: x + y), (one - other, lambda x, y: x - y), (one * Ratio(-2, 3), lambda x, y: x * Ratio(-2, 3)),
-            (one * 0, lambda x, y: x * 0), (one * 5, lambda x, y: x * 5),
+            (one + other, lambda x, y: x + y), (one - other, lambda x, y: x - y),
+            (one * Ratio(-2, 3), lambda x, y: x * Ratio(-2, 3)), (one * 0, lambda x, y: x * 0),
+            (one * 5, lambda x, y: x * 5),
         ]:
             self.assertIsInstance(found, PairSum)
             self.assertTrue(all_ratios(found.tables))
@@ -143,8 +144,9 @@ class TestOfPlaces(unittest.TestCase):
     def test_wrong_spots(self):
         good = (1, 2)
         for spots, place in [
-            (None, -1), ("abc", -1), ([good] * 2, -1), ([good] * 4, -1), ([good, good, 5], 2), ([good, (1, 2, 3), 5], 1),
-            ([(1,), None, good], 0), ([good, good, (1, "2")], 2), ([good, (None, 1), (1, 2.0)], 1),
+            (None, -1), ("abc", -1), ([good] * 2, -1), ([good] * 4, -1), ([good, good, 5], 2),
+            ([good, (1, 2, 3), 5], 1), ([(1,), None, good], 0), ([good, good, (1, "2")], 2),
+            ([good, (None, 1), (1, 2.0)], 1),
         ]:
             self.assertEqual(told(of_places, 3, 2, spots), ("BadTable", place), spots)
 

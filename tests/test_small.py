@@ -10,7 +10,7 @@ from steprows.pairs import PairSum, of_places
 from steprows.ratios import Ratio
 from steprows.small import four_sum, is_single, one_mean, singles, small_fault, three_sum, vanishes
 from steprows.webs import Web
-from tests.common import BIG_CROWD, Numbers, all_ratios, fraction, pair_value, small_crowds, some_pairs, told
+from tests.common import BIG_CROWD, Numbers, all_ratios, fraction, pair_value, rank, small_crowds, some_pairs, told
 
 CROWDS = small_crowds(3) + small_crowds(4) + [Crowd((3, 2)), Crowd((2, 2, 1)), Crowd((4, 1)), Crowd((2, 1, 1, 1))]
 
@@ -80,24 +80,11 @@ def four_sum_by_words(pairs, places, kinds):
 
 
 def is_one_place(pairs, crowd):
-    """Whether numbers G_u(a) as in [49] exist, by elimination over the words."""
+    """Whether numbers G_u(a) as in [49] exist, one equation for each word."""
     rows = []
     for word in words_of(crowd):
-        row = [Fraction(0)] * (crowd.size * crowd.kinds)
-        for place, kind in enumerate(word):
-            row[place * crowd.kinds + kind] = Fraction(1)
-        rows.append(row + [pair_value(pairs, word)])
-    done = 0
-    for column in range(crowd.size * crowd.kinds):
-        pivot = next((number for number in range(done, len(rows)) if rows[number][column]), None)
-        if pivot is None:
-            continue
-        rows[done], rows[pivot] = rows[pivot], rows[done]
-        for number in range(done + 1, len(rows)):
-            factor = rows[number][column] / rows[done][column]
-            rows[number] = [entry - factor * more for entry, more in zip(rows[number], rows[done])]
-        done += 1
-    return not any(row[-1] for row in rows[done:])
+        rows.append([int(word[u] == a) for u in range(crowd.size) for a in range(crowd.kinds)])
+    return rank(rows) == rank([row + [pair_value(pairs, word)] for row, word in zip(rows, words_of(crowd))])
 
 
 def small_sum(pairs, crowd, fault):

@@ -1,14 +1,13 @@
 """[52]: which sums over few places tell the numbers of the words."""
 
 import unittest
-from fractions import Fraction
 from itertools import combinations, permutations
 
 from steprows.crowds import Crowd, words_of
 from steprows.ratios import Ratio
 from steprows.shares import Shares
 from steprows.telling import place_sums, tells, untold
-from tests.common import BIG_CROWD, Numbers, fraction, told
+from tests.common import BIG_CROWD, Numbers, fraction, rank, told
 
 CROWDS = [Crowd(counts) for counts in [
     (1,), (3,), (1, 1), (2, 1), (1, 2), (1, 1, 1), (2, 2), (1, 3), (2, 1, 1), (1, 2, 1), (1, 1, 1, 1), (3, 2),
@@ -26,20 +25,9 @@ def told_by_rank(crowd, many):
     words = words_of(crowd)
     rows = []
     for places in combinations(range(crowd.size), many):
-        for row in {tuple(word[place] for place in places) for word in words}:
-            rows.append([Fraction(all(word[p] == kind for p, kind in zip(places, row))) for word in words])
-    done = 0
-    for column in range(len(words)):
-        pivot = next((number for number in range(done, len(rows)) if rows[number][column]), None)
-        if pivot is None:
-            return False
-        rows[done], rows[pivot] = rows[pivot], rows[done]
-        for number in range(done + 1, len(rows)):
-            factor = rows[number][column] / rows[done][column]
-            if factor:
-                rows[number] = [entry - factor * more for entry, more in zip(rows[number], rows[done])]
-        done += 1
-    return True
+        for row in sorted({tuple(word[place] for place in places) for word in words}):
+            rows.append([int(all(word[p] == kind for p, kind in zip(places, row))) for word in words])
+    return rank(rows) == len(words)
 
 
 class TestPlaceSums(unittest.TestCase):
@@ -66,7 +54,9 @@ class TestPlaceSums(unittest.TestCase):
         crowd = Crowd((1, 1, 1))
         numbers = [1, 2, 4, 8, 16, 32]
         found = [(row, one.told()) for row, one in place_sums(crowd, numbers, (2, 0))]
-        self.assertEqual(found, [((0, 1), "8"), ((0, 2), "32"), ((1, 0), "2"), ((1, 2), "16"), ((2, 0), "1"), ((2, 1), "4")])
+        self.assertEqual(found, [
+            ((0, 1), "8"), ((0, 2), "32"), ((1, 0), "2"), ((1, 2), "16"), ((2, 0), "1"), ((2, 1), "4"),
+        ])
         self.assertEqual([(row, one.told()) for row, one in place_sums(crowd, numbers, ())], [((), "63")])
         self.assertEqual(len(place_sums(crowd, numbers, (1, 2, 0))), 6)
 
