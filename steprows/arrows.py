@@ -107,7 +107,6 @@ def ratios_close(arrows):
 def kind_round(arrows, crowd, a):
     """The product of the ratios of kind a to the kinds of all walkers."""
     check_crowd(arrows, crowd)
-    check_kinds(arrows.kinds, (a,))
     return product_over([arrows.ratio(a, kind).to_power(count) for kind, count in enumerate(crowd.counts)])
 
 

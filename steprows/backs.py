@@ -41,12 +41,10 @@ def tie_fault(run, shares, tie):
     u, v = tie
     first = {}
     for word in words_of(shares.crowd):
-        kinds = (word[u], word[v])
-        if word[u] == word[v]:
-            continue
-        early = first.setdefault(kinds, word)
-        if back_rate(run, shares, early, u, v) != back_rate(run, shares, word, u, v):
-            return (early, word)
+        if word[u] != word[v]:
+            early = first.setdefault((word[u], word[v]), word)
+            if back_rate(run, shares, early, u, v) != back_rate(run, shares, word, u, v):
+                return (early, word)
     return None
 
 

@@ -38,6 +38,5 @@ def kind_parts(lean, crowd):
 
 def four_parts(lean, crowd):
     """The Leans DD, DB, BD, BB: difference or balanced by places, then by kinds."""
-    check_measure(lean, crowd)
     difference, rest = place_parts(lean)
     return kind_parts(difference, crowd) + kind_parts(rest, crowd)

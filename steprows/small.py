@@ -1,7 +1,7 @@
 """Small sums, which tell whether a pair sum is 0 on every word or a one-place sum."""
 
 from steprows.checks import (
-    check_kinds, check_measure, check_place_row, check_places, check_unlike_kinds, is_below, is_row_of, upper_pairs,
+    check_measure, check_place_row, check_places, check_unlike_kinds, is_below, is_row_of, upper_pairs,
 )
 from steprows.errors import BadKind
 from steprows.pairs import entry_of
@@ -50,7 +50,6 @@ def one_mean(pairs, crowd, u, a):
     """The mean of the pair sum over the words with kind a at place u."""
     check_measure(pairs, crowd)
     check_places(crowd.size, (u,))
-    check_kinds(crowd.kinds, (a,))
     less = crowd.fewer(a)
     span = range(crowd.kinds)
     others = [place for place in range(crowd.size) if place != u]

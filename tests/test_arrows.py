@@ -98,7 +98,8 @@ def some_rates(crowd):
     """Tables of rates for which each case can hold."""
     kinds = crowd.kinds
     many = kinds * (kinds - 1) // 2
-    tables = [rates_by([1] * many, kinds), rates_by(level_ratios(kinds), kinds), rates_by(range(2, many + 2), kinds)]
+    tables = [rates_by([1] * many, kinds), rates_by(level_ratios(kinds), kinds), rates_by(range(1, many + 1), kinds)]
+    tables.append(rates_by([2] + [1] * (many - 1), kinds))
     if kinds == 3:
         tables.append(rates_by(round_ratios(crowd), 3))
     return tables
@@ -184,6 +185,11 @@ class TestReading(unittest.TestCase):
                         self.assertEqual((levels[0], len(levels)), (0, size))
                         self.assertTrue(all(levels[v] == levels[u] + 1 for u, v, _ in told_arrows.arrows))
         self.assertEqual(seen, {(True, False), (False, False), (False, True)})
+        # A tie between two places far from place 0 may come early.
+        far = Arrows(Web(4, [(0, 3), (1, 2), (1, 3)]), ((0, 3, 1), (2, 1, 1), (1, 3, 1)), [[0, 1], [1, 0]])
+        self.assertEqual(far.levels(), (0, 0, -1, 1))
+        far = Arrows(Web(5, [(0, 4), (1, 2), (2, 3), (3, 4)]), ((4, 0, 1), (1, 2, 1), (3, 2, 1), (3, 4, 1)), RATES)
+        self.assertEqual(far.levels(), (0, -2, -1, -2, -1))
         self.assertEqual(arrows_on(Web.row(8), [True] * 7, [[0, 1], [1, 0]]).levels(), (0, -1, -2, -3, -4, -5, -6, -7))
 
     def test_one_way(self):

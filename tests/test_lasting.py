@@ -146,6 +146,9 @@ class TestLasts(unittest.TestCase):
         self.assertEqual(told(flow_fault, run, unkept, BIG_CROWD), ("TooMany", 10080))
         self.assertEqual(told(flow_fault, some_run(Web.ring(8), 2), unkept, BIG_CROWD), ("Unfit",))
         self.assertEqual(told(lasts, run, unkept, BIG_CROWD)[0], "NotKept")
+        run, unkept = some_run(Web.ring(4), 2), changed(RatioTable.even(Web.ring(4), 2), 0, 0, 1)
+        for call in (lasts, flow_fault):
+            self.assertEqual(told(call, run, unkept, BIG_CROWD), ("Unfit",))
 
     def test_example(self):
         web = Web.ring(4)

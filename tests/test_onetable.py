@@ -128,8 +128,8 @@ class TestMaking(unittest.TestCase):
         for speeds, place in [
             (None, -1), ("ab", -1), ([good], -1), ([good] * 3, -1), ([good, None], 1), ([5, None], 0),
             ([good, (1,)], 1), ([good, (1, 2, 3)], 1), ([good, (0, 0)], 1), ([(0, Ratio(0)), 5], 0),
-            ([good, (2, -1)], 1), ([good, (-1, 2)], 1), ([good, (Ratio(-1, 2), 1)], 1), ([good, ("1", 1)], 1), ([good, (1, 1.0)], 1),
-            ([good, "11"], 1),
+            ([good, (2, -1)], 1), ([good, (-1, 2)], 1), ([good, (Ratio(-1, 2), 1)], 1), ([good, ("1", 1)], 1),
+            ([good, (1, 1.0)], 1), ([good, "11"], 1),
         ]:
             for rates in (None, RATES):
                 self.assertEqual(told(OneTable, Web.row(3), speeds, rates), ("BadTable", place), speeds)

@@ -51,6 +51,8 @@ class TestRatio(unittest.TestCase):
         self.assertFalse(Ratio(1, 2) == 0)
         self.assertFalse(Ratio(1, 2) == 1)
         self.assertFalse(Ratio(1, 2) == Ratio(1, 3))
+        self.assertFalse(Ratio(1, 3) == Ratio(2, 3))
+        self.assertFalse(Ratio(2) == 3)
         self.assertTrue(Ratio(1, 2) != Ratio(1, 3))
         for other in ("1/2", (1, 2), None, Web.row(3), [1], 0.5):
             self.assertIs(Ratio(1, 2) == other, False)

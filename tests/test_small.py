@@ -55,6 +55,17 @@ def level_spots(crowd):
     return [[Ratio(spot.numerator, spot.denominator) for spot in row] for row in spots]
 
 
+def unlike_ones(crowd):
+    """The sum of y_u + y_v over unlike kinds at u and v, less the one-place sum that it is on the crowd."""
+    size, kinds = crowd.size, crowd.kinds
+    heights = [Ratio(u * u + 1) for u in range(size)]
+    unlike = PairSum(size, kinds, [
+        [[heights[u] + heights[v] if a != b else 0 for b in range(kinds)] for a in range(kinds)]
+        for u, v in combinations(range(size), 2)
+    ])
+    return unlike - of_places(size, kinds, [[height * (size - count) for count in crowd.counts] for height in heights])
+
+
 def hidden_zeros(crowd):
     """Pair sums that are 0 on each word of the crowd, though their entries are not."""
     size, kinds = crowd.size, crowd.kinds
@@ -63,6 +74,7 @@ def hidden_zeros(crowd):
         PairSum.nothing(size, kinds), of_places(size, kinds, spots) - of_places_at_few(size, kinds, spots),
         alike_ones(crowd), of_places_at_few(size, kinds, level_spots(crowd)),
         of_places(size, kinds, level_spots(crowd)) * 5 + alike_ones(crowd),
+        unlike_ones(crowd),
     ]
 
 

@@ -71,6 +71,16 @@ class TestCirculations(unittest.TestCase):
                     self.assertEqual(rank([list(map(fraction, one)) for one in found]), len(web) - size + 1)
         self.assertEqual(circulations(Web.star(5)), [])
 
+    def test_each_list_is_new(self):
+        for call, things in [
+            (circulations, (Web.ring(4),)), (balanced, (Crowd((2, 1, 1)),)),
+            (even_base, (Web.ring(4), Crowd((2, 1, 1)))),
+        ]:
+            many = len(call(*things))
+            call(*things).clear()
+            self.assertEqual(len(call(*things)), many)
+            self.assertGreater(many, 0)
+
     def test_by_hand(self):
         # The ties (0, 1), (0, 3), (1, 2), (2, 3); the round goes from 2 to 3, 0, 1 and back to 2.
         self.assertEqual(rounds(Web.ring(4)), ((2, 3, 0, 1),))
