@@ -142,6 +142,14 @@ def upper_pairs(many):
     return [(a, b) for a in range(many) for b in range(a + 1, many)]
 
 
+def picks(many, length):
+    """The ascending tuples of so many different numbers below many, in order."""
+    rows = [()]
+    for _ in range(length):
+        rows = [row + (number,) for row in rows for number in range(many) if number > max(row, default=-1)]
+    return rows
+
+
 def upper_of(square):
     """The entries [a][b] of a table with a < b, pairs in order."""
     return tuple([square[a][b] for a, b in upper_pairs(len(square))])

@@ -17,13 +17,18 @@ def non_ties(web):
     return tuple([(u, v) for u in range(web.size) for v in range(u + 1, web.size) if (u, v) not in web])
 
 
+def parts_over(size, ties):
+    """The parts into which the places fall if two places are joined by each of the ties."""
+    labels = labels_of(size, ties)
+    return tuple([
+        tuple([place for place in range(size) if labels[place] == least])
+        for least in range(size) if labels[least] == least
+    ])
+
+
 def pieces(web):
     """The connected parts of the graph of the non-ties."""
-    labels = labels_of(web.size, non_ties(web))
-    return tuple([
-        tuple([place for place in range(web.size) if labels[place] == least])
-        for least in range(web.size) if labels[least] == least
-    ])
+    return parts_over(web.size, non_ties(web))
 
 
 def is_join(web):

@@ -17,6 +17,15 @@ def circulations(web):
     return [tuple([round_strength(ring, u, v) for u, v in web.ties]) for ring in rounds(web)]
 
 
+def is_circulation(web, strengths):
+    """True if at each place the strengths of its ties, read away from it, add up to 0."""
+    sums = [Ratio(0)] * web.size
+    for (u, v), strength in zip(web.ties, strengths):
+        sums[u] = sums[u] + strength
+        sums[v] = sums[v] - strength
+    return all([one == 0 for one in sums])
+
+
 def balanced_with(crowd, a, b):
     """The balanced table of the kinds 0, a, b with 1 for a, b, a < b, and 0 for all other kinds above 0."""
     counts = crowd.counts

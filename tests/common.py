@@ -4,6 +4,7 @@ from fractions import Fraction
 from itertools import combinations, permutations, product
 from math import lcm
 
+from steprows.classes import Classes
 from steprows.crowds import Crowd, exchanged, words_in, words_of
 from steprows.errors import StepError
 from steprows.leans import Lean
@@ -14,6 +15,7 @@ from steprows.shapes import rounds
 from steprows.shares import Shares
 from steprows.standing import standing_run
 from steprows.tables import RatioTable
+from steprows.ways import even_base
 from steprows.webs import Web
 
 BIG_CROWD = Crowd((2, 2, 1, 1, 1, 1))
@@ -329,3 +331,134 @@ def all_ratios(thing):
     if isinstance(thing, tuple):
         return all(all_ratios(part) for part in thing)
     return isinstance(thing, Ratio)
+
+
+def even_lean(web, crowd, seed=1):
+    """A lean of an even run on the web: a sum of multiples of all there are."""
+    numbers = Numbers(seed)
+    lean = Lean.nothing(web.size, crowd.kinds)
+    for one in even_base(web, crowd):
+        lean = lean + one * (numbers.ratio() - numbers.ratio())
+    return lean
+
+
+def loose_threefold():
+    """Threefold webs of five to seven places that are loose."""
+    return [
+        Web(5, ((0, 1), (0, 2), (0, 3), (1, 4))), Web(6, ((0, 1), (0, 2), (0, 3), (1, 4), (1, 5))),
+        Web(6, ((0, 5), (1, 2), (1, 3), (2, 4), (3, 4), (4, 5))),
+        Web(7, ((0, 1), (0, 6), (1, 2), (2, 3), (2, 5), (3, 4), (4, 5), (5, 6))),
+        Web(5, ((0, 3), (1, 3), (1, 4), (2, 4), (3, 4))),
+        Web(6, ((0, 1), (0, 3), (0, 4), (0, 5), (1, 2), (1, 3), (1, 4), (2, 4), (4, 5))),
+    ]
+
+
+def ring_steps_of(web):
+    """The steps of a ring along its line, by hand: from place 0 on, first to the lesser near one."""
+    line = [0, min(web.near(0))]
+    while len(line) < web.size:
+        line += [place for place in web.near(line[-1]) if place != line[-2]]
+    return list(zip(line, line[1:] + [0]))
+
+
+def is_round(web, strengths):
+    """True if what runs out of each place runs into it."""
+    out = [Fraction(0)] * web.size
+    for (u, v), strength in zip(web.ties, strengths):
+        out[u] += fraction(strength)
+        out[v] -= fraction(strength)
+    return not any(out)
+
+
+def flow_by_words(run, chances, u, v, a):
+    """The flow of [86], word by word; chances gives each word its chance."""
+    flow = Fraction(0)
+    for word, chance in chances.items():
+        if word[u] == a:
+            flow += chance * fraction(run.rate(u, v, a, word[v]))
+        if word[v] == a:
+            flow -= chance * fraction(run.rate(u, v, word[u], a))
+    return flow
+
+
+def word_chances(shares):
+    return dict(zip(words_of(shares.crowd), share_chances(shares)))
+
+
+def some_weights(crowd, seed=1):
+    """Weights of at least 0, some of them 0."""
+    numbers = Numbers(seed)
+    return [numbers.below(4) for _ in range(crowd.many - 1)] + [1]
+
+
+def circulation(web, numbers):
+    """What runs round the rounds of the web with arbitrary strengths, read from u to v for each tie u < v."""
+    found = {tie: Fraction(0) for tie in web.ties}
+    for ring in rounds(web):
+        strength = fraction(numbers.ratio()) * (1 - 2 * numbers.below(2))
+        for u, v in zip(ring, ring[1:] + ring[:1]):
+            found[min(u, v), max(u, v)] += strength if u < v else -strength
+    return found
+
+
+def joined_by(size, ties):
+    """For each place the least one that it is joined to by the ties."""
+    label = list(range(size))
+    for u, v in ties:
+        low, high = sorted((label[u], label[v]))
+        label = [low if one == high else one for one in label]
+    return label
+
+
+def spun_run(web, kinds, seed=1):
+    """A full run by [95], with its f and s, and the table of its f."""
+    numbers = Numbers(seed)
+    spun = [circulation(web, numbers) for _ in range(kinds)]
+    label = joined_by(web.size, [tie for tie in web.ties if len({one[tie] for one in spun}) > 1])
+    own = [[fraction(numbers.ratio()) for _ in range(kinds)] for _ in range(web.size)]
+    spots = [[part * more for part in own[least]] for least, more in zip(label, (1, 2, 5, 1, 3, 1, 2, 7))]
+    rates, entries = [], []
+    for u, v in web.ties:
+        steps = [[spots[u][b] * spots[v][a] / (spots[u][a] * spots[v][b]) for b in range(kinds)] for a in range(kinds)]
+        table = [[Fraction(0)] * kinds for _ in range(kinds)]
+        for a, b in combinations(range(kinds), 2):
+            table[b][a] = 9000 + fraction(numbers.ratio())
+            table[a][b] = table[b][a] * steps[a][b] + spun[a][u, v] - spun[b][u, v]
+        rates.append([[ratio(one) for one in row] for row in table])
+        entries.append([[ratio(one) for one in row] for row in steps])
+    return Run(web, kinds, rates), RatioTable(web, kinds, entries)
+
+
+def some_parting(crowd, seed=1):
+    """A parting of the kinds into two lots or more, lots and kinds in any order."""
+    numbers = Numbers(seed)
+    while True:
+        lot = [numbers.below(crowd.kinds) for _ in crowd.counts]
+        if len(set(lot)) > 1:
+            break
+    lots = [[kind for kind, one in enumerate(lot) if one == number] for number in set(lot)]
+    return numbers.shuffled([numbers.shuffled(one) for one in lots])
+
+
+def some_ratios(crowd, parting, seed=1):
+    """Ratios inside the lots, of which those of each kind have the product 1 by the counts."""
+    numbers = Numbers(seed)
+    table = [[Fraction(1)] * crowd.kinds for _ in crowd.counts]
+    for lot in parting:
+        for three in combinations(lot, 3):
+            factor = fraction(numbers.choice([Ratio(2), Ratio(1, 2), Ratio(3), Ratio(2, 3)]))
+            for a, b, c in (three, three[1:] + three[:1], three[2:] + three[:2]):
+                table[a][b] *= factor ** crowd.counts[c]
+                table[b][a] /= factor ** crowd.counts[c]
+    return [[ratio(one) for one in row] for row in table]
+
+
+def some_classes(crowd, parting=None, seed=1):
+    """Classes with told lots, or any, and arbitrary numbers and ratios."""
+    numbers = Numbers(seed)
+    lots = some_parting(crowd, seed) if parting is None else parting
+    leans = []
+    while len(leans) < len(lots):
+        lean = numbers.ratio() - numbers.ratio()
+        leans += [] if lean in leans else [lean]
+    return Classes(crowd, lots, leans, some_ratios(crowd, lots, seed))

@@ -14,20 +14,10 @@ from steprows.shares import Shares
 from steprows.small import four_sum, one_mean, three_sum, vanishes
 from steprows.solving import lasting_shares
 from steprows.standing import is_lasting
-from steprows.ways import even_base
 from steprows.webs import Web
 from tests.common import (
-    BIG_CROWD, Numbers, even_run, fraction, small_crowds, some_lean, some_run, some_standing_run, some_webs, told,
+    BIG_CROWD, even_lean, even_run, fraction, small_crowds, some_lean, some_run, some_standing_run, some_webs, told,
 )
-
-
-def even_lean(web, crowd, seed=1):
-    """A sum of multiples of the leans of even runs."""
-    numbers = Numbers(seed)
-    lean = Lean.nothing(web.size, crowd.kinds)
-    for one in even_base(web, crowd):
-        lean = lean + one * (numbers.ratio() - numbers.ratio())
-    return lean
 
 
 def some_runs(web, crowd):

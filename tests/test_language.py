@@ -4,6 +4,7 @@ import ast
 import builtins
 import re
 import unittest
+import warnings
 from pathlib import Path
 
 FOLDER = Path(__file__).resolve().parent.parent / "steprows"
@@ -15,12 +16,13 @@ BUILTINS = set(
 )
 METHODS = {
     "__init__", "__eq__", "__len__", "__iter__", "__contains__", "__getitem__", "__bool__", "__neg__", "__add__",
-    "__sub__", "__mul__", "__radd__", "__rsub__", "__rmul__", "__call__",
+    "__sub__", "__mul__", "__radd__", "__rsub__", "__rmul__", "__call__", "__enter__", "__exit__",
 }
 NODES = (
     ast.AsyncFunctionDef, ast.Await, ast.Global, ast.GeneratorExp, ast.Div, ast.Lambda, ast.AnnAssign, ast.Import,
-    ast.SetComp, ast.Set, ast.Try, ast.With, ast.NamedExpr,
+    ast.SetComp, ast.Set, ast.NamedExpr, ast.Delete, ast.Match, ast.Nonlocal, ast.Assert, ast.YieldFrom,
 )
+PLAIN_BUILTINS = (int, str, bytes, bool)
 WORDS = r"\b(type|typing|enum|Enum|Flag|Generic|ABC|namedtuple|open|input|law|register|elements|mro)\b"
 
 
@@ -120,8 +122,49 @@ class TestLanguage(unittest.TestCase):
     def test_module_level(self):
         for path, tree in self.trees.items():
             for node in tree.body:
+                if isinstance(node, ast.Assign):
+                    self.check_plain_value(node)
+                    continue
                 docstring = isinstance(node, ast.Expr) and isinstance(node.value, ast.Constant)
                 self.assertTrue(docstring or isinstance(node, (ast.ImportFrom, ast.FunctionDef, ast.ClassDef)), path)
+
+    def check_plain_value(self, node):
+        self.assertEqual([target.__class__ for target in node.targets], [ast.Name])
+        value = ast.literal_eval(node.value)
+        for one in [*value, *value.values()] if isinstance(value, dict) else [value]:
+            self.assertIsInstance(one, PLAIN_BUILTINS)
+
+    def test_only_own_errors_are_caught(self):
+        own = {node.name for node in self.trees[FOLDER / "errors.py"].body if isinstance(node, ast.ClassDef)}
+        for name, node in self.nodes(ast.Try):
+            self.assertEqual((node.orelse, node.finalbody), ([], []), name)
+            for handler in node.handlers:
+                caught = handler.type.elts if isinstance(handler.type, ast.Tuple) else [handler.type]
+                self.assertLessEqual({one.id for one in caught}, own - {"StepError"}, (name, handler.lineno))
+        for name, node in self.nodes(ast.Raise):
+            self.assertIsInstance(node.exc, ast.Call, (name, node.lineno))
+            self.assertIn(node.exc.func.id, own, (name, node.lineno))
+
+    def test_with_takes_trials_only(self):
+        for name, node in self.nodes(ast.With):
+            self.assertEqual([ast.unparse(item) for item in node.items], ["self.trial() as room"], name)
+
+    def test_leaving_a_trial_only_assigns(self):
+        for name, node in self.nodes(ast.FunctionDef):
+            if node.name == "__exit__":
+                self.assertTrue(all(isinstance(row, ast.Assign) for row in node.body), name)
+
+    def test_is_only_with_constants(self):
+        for name, node in self.nodes(ast.Compare):
+            for sign, side in zip(node.ops, node.comparators):
+                if isinstance(sign, (ast.Is, ast.IsNot)):
+                    self.assertIsInstance(side, ast.Constant, (name, node.lineno))
+
+    def test_interpreters_warn_of_nothing(self):
+        for path, text in self.texts.items():
+            with warnings.catch_warnings():
+                warnings.simplefilter("error")
+                compile(text, path.name, "exec")
 
     def test_sums_in_place_only_of_literals(self):
         for name, node in self.nodes(ast.AugAssign):
