@@ -1,17 +1,20 @@
-"""The examples of the document, and its interface: every name where it is listed, with its arguments."""
+"""The examples of the document and of README.md, and the interface: every name with its arguments."""
 
 import ast
 import builtins
 import doctest
 import importlib
 import inspect
+import io
 import unittest
+from contextlib import redirect_stdout
 from pathlib import Path
 
 from steprows.crowds import Crowd
 from steprows.webs import Web
 
 EXAMPLES = Path(__file__).resolve().parent / "examples.txt"
+README = Path(__file__).resolve().parent.parent / "README.md"
 FOLDER = Path(__file__).resolve().parent.parent / "steprows"
 
 # For each module its functions, and its classes with their methods, properties and arguments.
@@ -198,6 +201,24 @@ class TestExamples(unittest.TestCase):
             self.assertEqual(result.failed, 0, "".join(said))
             many += bool(examples.examples)
         self.assertEqual(many, 28)
+
+
+class TestReadme(unittest.TestCase):
+
+    def test_each_example_by_itself(self):
+        blocks = [part.split("```")[0] for part in README.read_text().split("```python\n")[1:]]
+        self.assertEqual(len(blocks), 5)
+        for block in blocks:
+            said = io.StringIO()
+            with redirect_stdout(said):
+                exec(compile(block, str(README), "exec"), {})
+            lines = [line for line in block.split("\n") if line.startswith("print(")]
+            printed = said.getvalue().splitlines()
+            self.assertEqual(len(printed), len(lines))
+            for line, found in zip(lines, printed):
+                comment = line.split(" # ")[-1]
+                # A comment begins with what is printed, or says what it is where that has no words.
+                self.assertTrue(comment.startswith(found) or " object at " in found, line)
 
 
 class TestInterface(unittest.TestCase):
